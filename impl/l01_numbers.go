@@ -304,64 +304,50 @@ func ExpNumber(x float32) float32 {
 	return NarrowNumber(p)
 }
 
-// SumNumbers returns the sum from left to right.
-func SumNumbers(list []float32) (float32, bool) {
+// summable numbers have sums that are made in the same way.
+type summable interface{ float32 | complex64 }
+
+// sumOf begins with +0 and adds at most MaxNumbers numbers from left to right.
+func sumOf[T summable](list []T) (T, bool) {
+	var sum T
 	if len(list) > MaxNumbers {
-		return 0, false
+		return sum, false
 	}
-	var sum float32
 	for _, x := range list {
 		sum += x
 	}
 	return sum, true
 }
+
+// dotOf does so with the products of the numbers of two lists.
+func dotOf[T summable](a, b []T, product func(x, y T) T) (T, bool) {
+	var sum T
+	if len(a) > MaxNumbers || len(a) != len(b) {
+		return sum, false
+	}
+	for i, x := range a {
+		sum += product(x, b[i])
+	}
+	return sum, true
+}
+
+// SumNumbers returns the sum from left to right.
+func SumNumbers(list []float32) (float32, bool) { return sumOf(list) }
 
 // DotNumbers returns the sum of products, each rounded before it is added.
 func DotNumbers(a, b []float32) (float32, bool) {
-	if len(a) > MaxNumbers || len(a) != len(b) {
-		return 0, false
-	}
-	var sum float32
-	for i, x := range a {
-		sum += float32(x * b[i])
-	}
-	return sum, true
+	return dotOf(a, b, func(x, y float32) float32 { return float32(x * y) })
 }
 
 // SumComplex returns the sum from left to right.
-func SumComplex(list []complex64) (complex64, bool) {
-	if len(list) > MaxNumbers {
-		return 0, false
-	}
-	var sum complex64
-	for _, x := range list {
-		sum += x
-	}
-	return sum, true
-}
+func SumComplex(list []complex64) (complex64, bool) { return sumOf(list) }
 
 // DotComplex returns the sum of products.
-func DotComplex(a, b []complex64) (complex64, bool) {
-	if len(a) > MaxNumbers || len(a) != len(b) {
-		return 0, false
-	}
-	var sum complex64
-	for i, x := range a {
-		sum += MulComplex(x, b[i])
-	}
-	return sum, true
-}
+func DotComplex(a, b []complex64) (complex64, bool) { return dotOf(a, b, MulComplex) }
 
 // DotConjugate returns the sum of products of the conjugates of a and of b.
 func DotConjugate(a, b []complex64) (complex64, bool) {
-	if len(a) > MaxNumbers || len(a) != len(b) {
-		return 0, false
-	}
-	var sum complex64
-	for i, x := range a {
-		sum += MulComplex(ConjugateOf(x), b[i])
-	}
-	return sum, true
+	return dotOf(a, b, func(x, y complex64) complex64 { return MulComplex(ConjugateOf(x), y) })
 }
 
 // PowersOf returns the sum of powers, which is narrowed only in the end.
