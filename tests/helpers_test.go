@@ -1,7 +1,9 @@
 package tests
 
 import (
+	"fmt"
 	"math"
+	"strings"
 	"testing"
 )
 
@@ -74,4 +76,47 @@ func list[T any](count int, x T) []T {
 		all[i] = x
 	}
 	return all[:count]
+}
+
+// seen writes results down in full, so that equal texts mean equal results.
+func seen(results ...any) string {
+	parts := []string{}
+	for _, r := range results {
+		switch x := r.(type) {
+		case float32:
+			parts = append(parts, fmt.Sprintf("%08x", bitsOf(x)))
+		case complex64:
+			parts = append(parts, fmt.Sprintf("%08x%08x", bitsOf(real(x)), bitsOf(imag(x))))
+		case []float32:
+			for _, y := range x {
+				parts = append(parts, seen(y))
+			}
+		case [][]float32:
+			for _, y := range x {
+				parts = append(parts, "["+seen(y)+"]")
+			}
+		case []complex64:
+			for _, y := range x {
+				parts = append(parts, seen(y))
+			}
+		default:
+			parts = append(parts, fmt.Sprint(x))
+		}
+	}
+	return strings.Join(parts, " ")
+}
+
+// callTwice fails where a call panics, or where its results are not equal the second time.
+func callTwice(t *testing.T, what string, call func() string) string {
+	t.Helper()
+	defer func() {
+		if r := recover(); r != nil {
+			t.Errorf("%s panics: %v", what, r)
+		}
+	}()
+	first := call()
+	if again := call(); again != first {
+		t.Errorf("%s: got %s, and then %s", what, first, again)
+	}
+	return first
 }
